@@ -1,13 +1,20 @@
 """A list of calls about one road, and what they answer."""
 
+from roadlaid.checking import check
+from roadlaid.least import best
 from roadlaid.told import Road
 
 BEGINS = 0
 POINT = 1
 FIX = 2
+FREE = 3
+PIT = 4
+CLOSE = 5
+BEST = 6
+CHECK = 7
 
-# How many numbers stand behind the number of each call: begins, point, fix, free.
-NUMBERS_BEHIND = {0: 4, 1: 1, 2: 2, 3: 1}
+# How many numbers stand behind the number of each call that has no rows: begins, point, fix, free, pit, close, best.
+NUMBERS_BEHIND = {0: 4, 1: 1, 2: 2, 3: 1, 4: 3, 5: 1, 6: 0}
 
 
 def answers(calls):
@@ -16,13 +23,25 @@ def answers(calls):
     given = []
     start = 0
     while start < len(calls):
-        call = calls[start]
-        end = start + 1 + NUMBERS_BEHIND[call]
-        answered = answer(road, call, calls[start + 1:end])
+        end = call_end(calls, start)
+        answered = answer(road, calls[start], calls[start + 1:end])
         given.append(len(answered))
         given.extend(answered)
         start = end
     return given
+
+
+def call_end(calls, start):
+    """Where the call that begins at start ends."""
+    if calls[start] == CHECK:
+        hauls_start = row_end(calls, start + 1)
+        return row_end(calls, hauls_start)
+    return start + 1 + NUMBERS_BEHIND[calls[start]]
+
+
+def row_end(numbers, start):
+    """Where the row ends whose length stands at start."""
+    return start + 1 + numbers[start]
 
 
 def answer(road, call, numbers):
@@ -33,5 +52,18 @@ def answer(road, call, numbers):
         return [road.add_point(numbers[0])]
     if call == FIX:
         return [road.fix(numbers[0], numbers[1])]
-    # NUMBERS_BEHIND has let through no other call than free.
-    return [road.free(numbers[0])]
+    if call == FREE:
+        return [road.free(numbers[0])]
+    if call == PIT:
+        return [road.pit(numbers[0], numbers[1], numbers[2])]
+    if call == CLOSE:
+        return [road.close(numbers[0])]
+    if call == BEST:
+        return best(road)
+    # call_end has let through no other call than check.
+    line_end = row_end(numbers, 0)
+    return check(road, numbers[1:line_end], in_threes(numbers[line_end + 1:]))
+
+
+def in_threes(numbers):
+    return [numbers[start:start + 3] for start in range(0, len(numbers), 3)]

@@ -1,11 +1,16 @@
 import unittest
 
-from asking import begins, fix, free, listed, point, singles
+from asking import begins, best, check, close, fix, free, listed, pit, point, singles
 from roadlaid.road import answers
 
 MIXED = listed([begins(2, 4, 100, 100), point(6), point(7), fix(0, 6), fix(1, 7), free(0), free(0),
-                begins(3, 0, 0, 0), point(0), begins(0, 0, 0, 0), free(0)])
-MIXED_ANSWERS = singles(0, 0, -1, 0, -2, 0, -4, -1, 1, 0, -2)
+                begins(3, 0, 0, 0), point(0), pit(1, 2, 3), pit(0, 101, 0), close(0), fix(0, 5), best(),
+                check([5, 4], (0, 1, 1)), check([5, 4]), check([6, 0]), check([5, 0], (0, 0, 1)), fix(0, 0), best(),
+                begins(0, 0, 0, 0), free(0), close(0), best(), check([])])
+MIXED_ANSWERS = (singles(0, 0, -1, 0, -2, 0, -4, -1, 1, 0, -1, -4, 0) + [5, 407, 1, 5, 3, 1]
+                 + [1, 510] + [3, -7, 0, 1] + [3, -6, 1, 0] + [1, -1]
+                 + singles(0) + [5, 618, 1, 0, 0, 6]
+                 + singles(0, -2, -2) + [2, 0, 1] + singles(0))
 
 
 class Unchanging(list):
@@ -30,6 +35,13 @@ class Answers(unittest.TestCase):
     def test_sixty_calls(self):
         calls = [begins(1, 1, 1, 1), point(3)] + [fix(0, 1), free(0)] * 29
         self.assertEqual(answers(listed(calls)), singles(*[0] * 60))
+
+    def test_sixty_calls_of_each_length(self):
+        calls = [begins(2, 4, 1, 1), point(3), point(3), pit(0, 1, 1)]
+        calls += [best(), check([3, 3]), check([2, 4], (0, 1, 1)), check([3, 4])] * 14
+        self.assertEqual(len(calls), 60)
+        self.assertEqual(answers(listed(calls)),
+                         singles(0, 0, 1, 0) + ([5, 0, 1, 3, 3, 0] + singles(0, 3) + [3, -7, 1, -1]) * 14)
 
     def test_the_list_handed_in_is_as_it_was(self):
         calls = list(MIXED)

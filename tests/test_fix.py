@@ -13,13 +13,13 @@ class Fix(unittest.TestCase):
             with self.subTest(height=height):
                 road = road_with(1, 2)
                 self.assertEqual(road.fix(1, height), 0)
-                self.assertEqual(state(road), (1, 2, 3, 4, [1, 2], [None, height]))
+                self.assertEqual(state(road), (1, 2, 3, 4, [1, 2], [None, height], [None, None]))
 
     def test_another_height_stands_instead(self):
         road = road_with(1)
         road.fix(0, 5)
         self.assertEqual(road.fix(0, 2), 0)
-        self.assertEqual(state(road), (1, 2, 3, 4, [1], [2]))
+        self.assertEqual(state(road), (1, 2, 3, 4, [1], [2], [None]))
 
     def test_fixed_twice_it_is_freed_once(self):
         self.assertEqual(ask(point(3), fix(0, 5), fix(0, 2), free(0), free(0)), singles(0, 0, 0, 0, -4))
@@ -63,6 +63,7 @@ class Fix(unittest.TestCase):
             with self.subTest(number=number, height=height):
                 road = road_with(1, 2)
                 road.fix(1, 4)
+                road.pit(0, 8, 9)
                 before = state(road)
                 self.assertEqual(road.fix(number, height), refusal)
                 self.assertEqual(state(road), before)

@@ -16,8 +16,9 @@ class Free(unittest.TestCase):
         road = road_with(1, 2, 3)
         for number in range(3):
             road.fix(number, number)
+        road.pit(1, 8, 9)
         self.assertEqual(road.free(1), 0)
-        self.assertEqual(state(road), (1, 2, 3, 4, [1, 2, 3], [0, None, 2]))
+        self.assertEqual(state(road), (1, 2, 3, 4, [1, 2, 3], [0, None, 2], [None, (8, 9), None]))
 
     def test_nothing_fixed_is_refused_alone(self):
         self.assertEqual(ask(point(3), free(0)), singles(0, -4))
@@ -42,6 +43,7 @@ class Free(unittest.TestCase):
             with self.subTest(number=number):
                 road = road_with(1, 2)
                 road.fix(1, 4)
+                road.pit(0, 8, 9)
                 before = state(road)
                 self.assertEqual(road.free(number), refusal)
                 self.assertEqual(state(road), before)

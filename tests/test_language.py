@@ -41,6 +41,29 @@ def names_bound(node):
     return [node.id] if isinstance(node, ast.Name) else []
 
 
+def parsed():
+    for path in files():
+        yield path.name, ast.parse(path.read_text())
+
+
+def locals_of(function):
+    """The parameters and locals of a function, and of the comprehensions and functions within it."""
+    for node in ast.walk(function):
+        if isinstance(node, ast.arg):
+            yield node.arg
+        if isinstance(node, ast.Name) and isinstance(node.ctx, ast.Store):
+            yield node.id
+
+
+def names_at_the_top(tree):
+    """The classes and imports of a file."""
+    for node in tree.body:
+        if isinstance(node, ast.ClassDef):
+            yield node.name
+        if isinstance(node, ast.ImportFrom):
+            yield from [alias.asname or alias.name for alias in node.names]
+
+
 class Language(unittest.TestCase):
     def test_files_and_signs(self):
         self.assertIn(PACKAGE / "__init__.py", files())
@@ -77,6 +100,44 @@ class Language(unittest.TestCase):
                 with self.subTest(place=place):
                     self.assertEqual(node.level, 0)
                     self.assertRegex(node.module, r"\Aroadlaid\.[a-z0-9_]+\Z")
+
+    def test_no_two_files_draw_from_one_another(self):
+        drawn = {}
+        for name, tree in parsed():
+            drawn[name] = {node.module.split(".")[-1] + ".py" for node in tree.body
+                           if isinstance(node, ast.ImportFrom)}
+        while drawn:
+            ready = [name for name in drawn if not drawn[name] & set(drawn)]
+            self.assertNotEqual(ready, [], f"these draw from one another: {sorted(drawn)}")
+            for name in ready:
+                drawn.pop(name)
+
+    def test_each_import_is_from_the_file_that_defines_it_and_is_used(self):
+        trees = dict(parsed())
+        for place, tree in trees.items():
+            for node in tree.body:
+                if isinstance(node, ast.ImportFrom):
+                    defined = {name for top in trees[node.module.split(".")[-1] + ".py"].body
+                               for target in getattr(top, "targets", [top]) for name in names_bound(target)}
+                    used = {name.id for name in ast.walk(tree) if isinstance(name, ast.Name)}
+                    with self.subTest(place=place, module=node.module):
+                        self.assertLessEqual({alias.name for alias in node.names}, defined & used)
+
+    def test_no_local_is_called_like_a_class_or_an_import(self):
+        for place, tree in parsed():
+            for node in ast.walk(tree):
+                if isinstance(node, ast.FunctionDef):
+                    with self.subTest(place=place, function=node.name):
+                        self.assertEqual(set(locals_of(node)) & set(names_at_the_top(tree)), set())
+
+    def test_no_name_is_both_a_method_and_a_value(self):
+        methods, given = set(), set()
+        for place, node in nodes():
+            if isinstance(node, ast.ClassDef):
+                methods |= {row.name for row in node.body if isinstance(row, ast.FunctionDef)}
+            if isinstance(node, ast.Attribute) and isinstance(node.ctx, ast.Store):
+                given.add(node.attr)
+        self.assertEqual(methods & given, set())
 
     def test_names(self):
         for place, node in nodes():

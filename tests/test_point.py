@@ -1,6 +1,6 @@
 import unittest
 
-from asking import GREATEST, ask, begins, fix, free, point, road_with, singles, state
+from asking import GREATEST, ask, begins, close, fix, free, pit, point, road_with, singles, state
 
 
 class Point(unittest.TestCase):
@@ -16,11 +16,15 @@ class Point(unittest.TestCase):
     def test_the_ground_is_told_behind_the_others_and_nothing_is_fixed(self):
         road = road_with(3, 0)
         road.fix(1, 4)
+        road.pit(0, 8, 9)
         self.assertEqual(road.add_point(6), 2)
-        self.assertEqual(state(road), (1, 2, 3, 4, [3, 0, 6], [None, 4, None]))
+        self.assertEqual(state(road), (1, 2, 3, 4, [3, 0, 6], [None, 4, None], [(8, 9), None, None]))
 
     def test_a_new_point_is_free(self):
         self.assertEqual(ask(point(3), fix(0, 3), point(3), free(1), free(0)), singles(0, 0, 1, -4, 0))
+
+    def test_a_new_point_has_no_pit(self):
+        self.assertEqual(ask(point(3), pit(0, 1, 1), point(3), close(1), close(0)), singles(0, 0, 1, -4, 0))
 
     def test_ground_above_6_is_refused_alone(self):
         for ground in (7, 8, GREATEST):
@@ -50,6 +54,7 @@ class Point(unittest.TestCase):
             with self.subTest(grounds=grounds, ground=ground):
                 road = road_with(*grounds)
                 road.fix(1, 6)
+                road.pit(1, 8, 9)
                 before = state(road)
                 self.assertEqual(road.add_point(ground), refusal)
                 self.assertEqual(state(road), before)
